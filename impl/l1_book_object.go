@@ -115,17 +115,31 @@ func bookLastChanges(history []BookChange) map[bookKey]int {
 	return last
 }
 
+func bookCopy(b Book) Book {
+	b.Objects = bookCopyList(b.Objects)
+	for i, o := range b.Objects {
+		b.Objects[i] = bookCopyObject(o)
+	}
+	b.History = bookCopyList(b.History)
+	for i, c := range b.History {
+		b.History[i].Object = bookCopyObject(c.Object)
+	}
+	b.Tickets = bookCopyList(b.Tickets)
+	return b
+}
+
 func bookCopyObject(o BookObject) BookObject {
-	o.Holds = bookCopyTexts(o.Holds)
+	o.Holds = bookCopyList(o.Holds)
 	return o
 }
 
-func bookCopyTexts(texts []string) []string {
-	if len(texts) == 0 {
+// bookCopyList has no spare room, and is nil for the empty list too, as the two are one value.
+func bookCopyList[T any](list []T) []T {
+	if len(list) == 0 {
 		return nil
 	}
-	fresh := make([]string, len(texts))
-	copy(fresh, texts)
+	fresh := make([]T, len(list))
+	copy(fresh, list)
 	return fresh
 }
 
