@@ -1,6 +1,9 @@
 package impl
 
-import "slices"
+import (
+	"cmp"
+	"slices"
+)
 
 // Limits of books.
 const (
@@ -328,10 +331,15 @@ func bookAscends[T any](list []T, before func(T, T) bool) bool {
 }
 
 func bookObjectBefore(o BookObject, p BookObject) bool {
-	if o.Kind != p.Kind {
-		return o.Kind < p.Kind
-	}
-	return o.Name < p.Name
+	return bookCompareObjects(o, p) < 0
+}
+
+func bookCompareObjects(o BookObject, p BookObject) int {
+	return bookCompareKeys(bookKeyOf(o), bookKeyOf(p))
+}
+
+func bookCompareKeys(k bookKey, l bookKey) int {
+	return cmp.Or(cmp.Compare(k.kind, l.kind), cmp.Compare(k.name, l.name))
 }
 
 func bookTicketBefore(t BookTicket, u BookTicket) bool {

@@ -31,18 +31,17 @@ func but(x impl.BookBundle, list ...impl.BookWant) impl.BookBundle {
 // wantAll holds a bundle against its answer, and looks at the memory of both.
 func wantAll(t *testing.T, what string, b impl.Book, x impl.BookBundle, want impl.BookDid, number int) {
 	t.Helper()
-	given := roomyBook(b)
 	bundle := impl.BookBundle{Wants: roomy(x.Wants, impl.BookWant{Name: "~"}), Writes: roomy(x.Writes, impl.BookWrite{Name: "~"})}
-	before, behind := wholeBook(given), wholeBundle(bundle)
-	got, n := impl.BookAll(given, bundle)
-	if got.Code != want.Code || got.Version != want.Version || n != number || !sameBook(got.Book, want.Book) {
-		t.Errorf("%s: %+v\ngives %d, %+v\nwant  %d, %+v", what, x, n, got, number, want)
-	}
-	if !reflect.DeepEqual(before, wholeBook(given)) || !reflect.DeepEqual(behind, wholeBundle(bundle)) {
-		t.Errorf("%s: %+v: BookAll wrote into its argument or behind it", what, x)
-	}
-	if !apart(append(spansOf(given), spansOf(got.Book)...)) {
-		t.Errorf("%s: %+v: lists share memory", what, x)
+	behind := wholeBundle(bundle)
+	memoryKept(t, what, b, func(given impl.Book) impl.Book {
+		got, n := impl.BookAll(given, bundle)
+		if got.Code != want.Code || got.Version != want.Version || n != number || !sameBook(got.Book, want.Book) {
+			t.Errorf("%s: %+v\ngives %d, %+v\nwant  %d, %+v", what, x, n, got, number, want)
+		}
+		return got.Book
+	})
+	if !reflect.DeepEqual(behind, wholeBundle(bundle)) {
+		t.Errorf("%s: %+v: BookAll wrote into the bundle or behind it", what, x)
 	}
 }
 

@@ -105,6 +105,21 @@ func apart(spans []span) bool {
 	return true
 }
 
+// memoryKept makes a call with a book that has room behind its lists, and looks at the memory of both: of the book, and of the
+// answer's lists, which the call gives back as a book.
+func memoryKept(t *testing.T, what string, b impl.Book, call func(given impl.Book) impl.Book) {
+	t.Helper()
+	given := roomyBook(b)
+	before := wholeBook(given)
+	answer := call(given)
+	if !reflect.DeepEqual(before, wholeBook(given)) {
+		t.Errorf("%s: something was written into the argument or behind it", what)
+	}
+	if !apart(append(spansOf(given), spansOf(answer)...)) {
+		t.Errorf("%s: lists share memory", what)
+	}
+}
+
 func TestApartSees(t *testing.T) {
 	list := []int{1, 2, 3, 4}
 	for _, c := range []struct {

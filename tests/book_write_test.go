@@ -3,7 +3,6 @@ package tests
 import (
 	"fmt"
 	"math"
-	"reflect"
 	"slices"
 	"strings"
 	"testing"
@@ -82,18 +81,13 @@ func broken(b impl.Book) impl.Book {
 // wantDid holds a write against its answer, and looks at the memory of both.
 func wantDid(t *testing.T, what string, b impl.Book, w impl.BookWrite, want impl.BookDid) {
 	t.Helper()
-	given := roomyBook(b)
-	before := wholeBook(given)
-	got := impl.BookDo(given, w)
-	if got.Code != want.Code || got.Version != want.Version || !sameBook(got.Book, want.Book) {
-		t.Errorf("%s: %+v\ngives %+v\nwant  %+v", what, w, got, want)
-	}
-	if !reflect.DeepEqual(before, wholeBook(given)) {
-		t.Errorf("%s: %+v: BookDo wrote into its argument or behind it", what, w)
-	}
-	if !apart(append(spansOf(given), spansOf(got.Book)...)) {
-		t.Errorf("%s: %+v: lists share memory", what, w)
-	}
+	memoryKept(t, what, b, func(given impl.Book) impl.Book {
+		got := impl.BookDo(given, w)
+		if got.Code != want.Code || got.Version != want.Version || !sameBook(got.Book, want.Book) {
+			t.Errorf("%s: %+v\ngives %+v\nwant  %+v", what, w, got, want)
+		}
+		return got.Book
+	})
 }
 
 // wantDone wants that a write is done, and makes this change.
