@@ -119,16 +119,26 @@ func bookLastChanges(history []BookChange) map[bookKey]int {
 }
 
 func bookCopy(b Book) Book {
-	b.Objects = bookCopyList(b.Objects)
-	for i, o := range b.Objects {
-		b.Objects[i] = bookCopyObject(o)
-	}
+	b.Objects = bookCopyObjects(b.Objects)
 	b.History = bookCopyList(b.History)
 	for i, c := range b.History {
-		b.History[i].Object = bookCopyObject(c.Object)
+		b.History[i] = bookCopyChange(c)
 	}
 	b.Tickets = bookCopyList(b.Tickets)
 	return b
+}
+
+func bookCopyObjects(objects []BookObject) []BookObject {
+	fresh := bookCopyList(objects)
+	for i, o := range fresh {
+		fresh[i] = bookCopyObject(o)
+	}
+	return fresh
+}
+
+func bookCopyChange(c BookChange) BookChange {
+	c.Object = bookCopyObject(c.Object)
+	return c
 }
 
 func bookCopyObject(o BookObject) BookObject {

@@ -109,13 +109,25 @@ func apart(spans []span) bool {
 // answer's lists, which the call gives back as a book.
 func memoryKept(t *testing.T, what string, b impl.Book, call func(given impl.Book) impl.Book) {
 	t.Helper()
-	given := roomyBook(b)
-	before := wholeBook(given)
-	answer := call(given)
-	if !reflect.DeepEqual(before, wholeBook(given)) {
-		t.Errorf("%s: something was written into the argument or behind it", what)
+	memoryKeptOf(t, what, []impl.Book{b}, func(given []impl.Book) impl.Book { return call(given[0]) })
+}
+
+// memoryKeptOf is memoryKept of several arguments, each as a book.
+func memoryKeptOf(t *testing.T, what string, books []impl.Book, call func(given []impl.Book) impl.Book) {
+	t.Helper()
+	var given, before []impl.Book
+	var spans []span
+	for _, b := range books {
+		b = roomyBook(b)
+		given, before, spans = append(given, b), append(before, wholeBook(b)), append(spans, spansOf(b)...)
 	}
-	if !apart(append(spansOf(given), spansOf(answer)...)) {
+	answer := call(slices.Clone(given))
+	for i, b := range given {
+		if !reflect.DeepEqual(before[i], wholeBook(b)) {
+			t.Errorf("%s: something was written into argument %d or behind it", what, i)
+		}
+	}
+	if !apart(append(spans, spansOf(answer)...)) {
 		t.Errorf("%s: lists share memory", what)
 	}
 }

@@ -16,8 +16,7 @@ func plainListed(b impl.Book, kind, prefix string) ([]impl.BookObject, int) {
 	}
 	var list []impl.BookObject
 	for _, o := range b.Objects {
-		begins := len(o.Name) >= len(prefix) && o.Name[:len(prefix)] == prefix
-		if begins && (kind == "" || kind == o.Kind) {
+		if looksAt(kind, prefix, o) {
 			list = append(list, o)
 		}
 	}
