@@ -210,7 +210,7 @@ func TestTakeOfAnyRecorder(t *testing.T) {
 	}
 }
 
-// Each way to spoil a recorder, for each kind of message.
+// Each way to spoil a recorder, for each kind of message and all else that a recorder does.
 func TestNothingOfRecordersThatAreNotValid(t *testing.T) {
 	for what, spoil := range map[string]change{
 		"Number":     func(r *impl.Recorder) { r.Number = 4 },
@@ -242,6 +242,15 @@ func TestNothingOfRecordersThatAreNotValid(t *testing.T) {
 			}
 			if got := impl.RecWish(r, "t"); !same(got, impl.Recorder{}) {
 				t.Errorf("%s: a wish gives %+v", what, got)
+			}
+			if got, sent := impl.RecTick(r); !same(got, impl.Recorder{}) || len(sent) != 0 {
+				t.Errorf("%s: a tick gives %+v %+v", what, got, sent)
+			}
+			if got := impl.RecFall(r); !same(got, impl.Recorder{}) {
+				t.Errorf("%s: a fall gives %+v", what, got)
+			}
+			if got := impl.RecRise(r); !same(got, impl.Recorder{}) {
+				t.Errorf("%s: a rise gives %+v", what, got)
 			}
 		}
 	}
