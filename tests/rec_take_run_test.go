@@ -45,7 +45,11 @@ func drawText(dice *rand.Rand) string {
 // drawRecorder is a valid recorder.
 func drawRecorder(dice *rand.Rand) impl.Recorder {
 	of := 1 + dice.Intn(5)
-	r := impl.RecNew(1+dice.Intn(of), of)
+	return drawNumbered(dice, 1+dice.Intn(of), of)
+}
+
+func drawNumbered(dice *rand.Rand, number, of int) impl.Recorder {
+	r := impl.RecNew(number, of)
 	r.Safe, r.Disk = drawDisk(dice), drawDisk(dice)
 	if r.Up = dice.Intn(12) > 0; !r.Up {
 		return r

@@ -11,7 +11,10 @@ import (
 
 // drawWaiting is a valid recorder, often one that waited nearly long enough, and often one that a tick makes lead.
 func drawWaiting(dice *rand.Rand) impl.Recorder {
-	r := drawRecorder(dice)
+	return waiting(dice, drawRecorder(dice))
+}
+
+func waiting(dice *rand.Rand, r impl.Recorder) impl.Recorder {
 	if r.Up {
 		limit := 4 + 3*r.Number
 		r.Heard = oneOf(dice, r.Heard, limit-1, limit, limit+1)
