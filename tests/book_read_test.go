@@ -149,34 +149,41 @@ func numbers(form string) [][2]int {
 	return places
 }
 
-// Numbers that would do if they were written otherwise, or taken for what is left of them in fewer bits.
+// otherNumbers are numbers that would do if they were written otherwise, or taken for what is left of them in fewer bits.
+func otherNumbers(digits string) []string {
+	n, _ := new(big.Int).SetString(digits, 10)
+	others := []string{"0" + digits, "00" + digits, strings.Repeat("0", 30) + digits, "+" + digits, "-" + digits, "0x" + n.Text(16), "0b" + n.Text(2), "0o" + n.Text(8),
+		digits + ".", digits + ".0", digits + "e0", "_" + digits, digits + "_", digits[:1] + "_" + digits[1:], " " + digits, digits + " ", "", "-", "x", "\"" + digits + "\"",
+		"1000001", "9999999", "10000000", "2147483648", "4294967296", "9223372036854775807", "9223372036854775808", "99999999999999999999", strings.Repeat("9", 400)}
+	for _, bits := range []uint{31, 32, 63, 64, 128} {
+		others = append(others, new(big.Int).Add(n, new(big.Int).Lsh(big.NewInt(1), bits)).String())
+		others = append(others, new(big.Int).Sub(n, new(big.Int).Lsh(big.NewInt(1), bits)).String())
+	}
+	return others
+}
+
 func TestReadNumbers(t *testing.T) {
 	for _, form := range []string{small(), shelfForm(), "book 0 0\n", "book 10 10\n", rawForm(yard())} {
 		for _, place := range numbers(form) {
 			digits := form[place[0]:place[1]]
-			n, _ := new(big.Int).SetString(digits, 10)
-			others := []string{"0" + digits, "00" + digits, strings.Repeat("0", 30) + digits, "+" + digits, "-" + digits, "0x" + n.Text(16), "0b" + n.Text(2), "0o" + n.Text(8),
-				digits + ".", digits + ".0", digits + "e0", "_" + digits, digits + "_", digits[:1] + "_" + digits[1:], " " + digits, digits + " ", "", "-", "x", "\"" + digits + "\"",
-				"1000001", "9999999", "10000000", "2147483648", "4294967296", "9223372036854775807", "9223372036854775808", "99999999999999999999", strings.Repeat("9", 400)}
-			for _, bits := range []uint{31, 32, 63, 64, 128} {
-				others = append(others, new(big.Int).Add(n, new(big.Int).Lsh(big.NewInt(1), bits)).String())
-				others = append(others, new(big.Int).Sub(n, new(big.Int).Lsh(big.NewInt(1), bits)).String())
-			}
-			for _, other := range others {
+			for _, other := range otherNumbers(digits) {
 				wantUnread(t, fmt.Sprintf("%q for %q", other, digits), form[:place[0]]+other+form[place[1]:])
 			}
 		}
 	}
 }
 
-func TestReadQuotes(t *testing.T) {
-	for _, c := range []struct {
-		quoted string
-		text   string
-		is     bool
-	}{
+// A quoting is what stands where a text in quotes belongs, and the text, if it is one.
+type quoting struct {
+	quoted string
+	text   string
+	is     bool
+}
+
+func quotings() []quoting {
+	return []quoting{
 		{`""`, "", true}, {`"a"`, "a", true}, {`" "`, " ", true}, {`"\22"`, `"`, true}, {`"\5c"`, `\`, true}, {`"\0a"`, "\n", true}, {`"\7f\80"`, "\x7f\x80", true},
-		{`"\5c\5c"`, `\\`, true}, {`"\5c22"`, `\22`, true}, {`"\00"`, "\x00", true}, {`"~!#[]"`, "~!#[]", true}, {`"a" h`, "a", true}, {`"a h"`, "a h", true}, {`"\012"`, "\x01" + "2", true},
+		{`"\5c\5c"`, `\\`, true}, {`"\5c22"`, `\22`, true}, {`"\00"`, "\x00", true}, {`"~!#[]"`, "~!#[]", true}, {`"a h"`, "a h", true}, {`"\012"`, "\x01" + "2", true},
 		{`"\61"`, "", false}, {`"\20"`, "", false}, {`"\7e"`, "", false}, {`"\21"`, "", false}, {`"\30"`, "", false}, // needless
 		{`"\0A"`, "", false}, {`"\FF"`, "", false}, {`"\fF"`, "", false}, {`"\5C"`, "", false}, {`"\7F"`, "", false}, // other digits
 		{`"\`, "", false}, {`"\"`, "", false}, {`"\0`, "", false}, {`"\0"`, "", false}, {`"\0a`, "", false}, {`"a\"`, "", false}, {`"\a"`, "", false}, // too early
@@ -185,9 +192,15 @@ func TestReadQuotes(t *testing.T) {
 		{"\"\n\"", "", false}, {"\"\x00\"", "", false}, {"\"\x1f\"", "", false}, {"\"\x7f\"", "", false}, {"\"\x80\"", "", false}, {"\"\xff\"", "", false}, {"\"\u00e9\"", "", false},
 		{`"`, "", false}, {``, "", false}, {`a`, "", false}, {`a"`, "", false}, {`"a`, "", false}, {`"a"a`, "", false}, {`"a"a"`, "", false}, {`"""`, "", false}, {`'a'`, "", false}, {"`a`", "", false},
 		{`"a"  h`, "", false}, {`"a" `, "", false}, {`"a" h `, "", false}, {`"a"h`, "", false}, {` "a"`, "", false}, {`"a" H`, "", false}, {`"a" h h`, "", false}, {`"a" h g`, "", false}, {`"a" "h"`, "", false},
+	}
+}
+
+func TestReadQuotes(t *testing.T) {
+	for _, c := range append(quotings(), []quoting{
+		{`"a" h`, "a", true},
 		{`"` + strings.Repeat("x", 300) + `"`, strings.Repeat("x", 300), true}, {`"` + strings.Repeat("x", 301) + `"`, "", false},
 		{`"` + strings.Repeat(`\ff`, 300) + `"`, strings.Repeat("\xff", 300), true}, {`"` + strings.Repeat(`\ff`, 301) + `"`, "", false},
-	} {
+	}...) {
 		s := "book 1 1\nobject k n 1 1 - " + c.quoted + "\n"
 		if !c.is {
 			wantUnread(t, "quotes", s)
