@@ -312,6 +312,12 @@ func TestNoGoroutineIsLeft(t *testing.T) {
 			impl.RecAgree(w)
 		}
 	}
+	wantNoMore(t, before)
+}
+
+// wantNoMore wants that there are no more goroutines than before.
+func wantNoMore(t *testing.T, before int) {
+	t.Helper()
 	// One that has done all may still be on its way out.
 	for wait := 0; runtime.NumGoroutine() > before && wait < 200; wait++ {
 		time.Sleep(10 * time.Millisecond)
